@@ -1,0 +1,1 @@
+"""Climbrow: duels of two open hands by lay and answer."""

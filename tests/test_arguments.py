@@ -1,0 +1,90 @@
+"""Point 2: arguments stay as they were, and what is returned is new."""
+
+import copy
+import unittest
+
+from climbrow import cards, pairings, rings, walks
+
+MINE, THEIRS, PAIRING = [3, 1, 2, 2], [2, 2, 0, 3], [2, 0, 3, 1]
+
+CALLS = [
+    (cards.deck, (MINE, THEIRS), {}),
+    (cards.deck, ([], []), {}),
+    (cards.place_of, (MINE, THEIRS, "theirs", 1), {}),
+    (cards.rank_of, (MINE, THEIRS, "mine", 1), {}),
+    (cards.around, (MINE, THEIRS, "mine", 2), {}),
+    (cards.around, (MINE, THEIRS, "theirs", 2), {"down": True}),
+    (cards.around, (MINE, [], "mine", 0), {}),
+    (cards.next_up, (MINE, THEIRS, "mine", 2), {}),
+    (cards.next_down, (MINE, THEIRS, "mine", 2), {}),
+    (walks.heights, (MINE, THEIRS), {}),
+    (walks.heights, ([], []), {}),
+    (walks.peak, (MINE, THEIRS), {}),
+    (walks.valley, (MINE, THEIRS), {}),
+    (walks.peak_places, (MINE, THEIRS), {}),
+    (walks.valley_places, (MINE, THEIRS), {}),
+    (walks.crossing, (MINE, THEIRS, PAIRING, 3), {}),
+    (rings.turn, (MINE, THEIRS), {}),
+    (rings.turn, (MINE, THEIRS), {"steps": 0}),
+    (rings.turn, (MINE, THEIRS), {"steps": 3}),
+    (rings.turn, (MINE, THEIRS), {"steps": 9}),
+    (rings.turn, ([], []), {"steps": 2}),
+    (rings.arc, (MINE, THEIRS, 1, 3), {}),
+    (rings.taken_out, (MINE, THEIRS, 1, 3), {}),
+    (rings.taken_out, (MINE, THEIRS, 0, 0), {}),
+    (rings.taken_out, ([1], [1], 0, 0), {}),
+    (pairings.result, (MINE, THEIRS, PAIRING), {}),
+    (pairings.marks, (MINE, THEIRS, PAIRING), {}),
+    (pairings.winners, (MINE, THEIRS, PAIRING), {}),
+    (pairings.rotation, (MINE, THEIRS, 0), {}),
+    (pairings.rotation, (MINE, THEIRS, 2), {}),
+    (pairings.rotation, ([], [], 0), {}),
+    (pairings.exchange, (PAIRING, 0, 3), {}),
+    (pairings.exchange, (PAIRING, 2, 2), {}),
+    (pairings.distance, (PAIRING, [0, 1, 2, 3]), {}),
+    (pairings.way, (PAIRING, [0, 1, 2, 3]), {}),
+    (pairings.way, (PAIRING, PAIRING), {}),
+]
+
+
+def lists_in(found):
+    """All lists that a value is or contains."""
+    inner = [part for entry in found for part in lists_in(entry)] if isinstance(found, (list, tuple)) else []
+    return ([found] if isinstance(found, list) else []) + inner
+
+
+def told(found):
+    """A value to compare: an object that is none of Python's own is shown by its attributes."""
+    return vars(found) if hasattr(found, "__dict__") else found
+
+
+class ArgumentsTest(unittest.TestCase):
+
+    def test_arguments_stay_as_they_were(self):
+        for call, args, kwargs in CALLS:
+            given = copy.deepcopy(args)
+            call(*given, **kwargs)
+            self.assertEqual(given, args, call.__name__)
+
+    def test_returned_lists_are_new_and_no_two_are_the_same(self):
+        for call, args, kwargs in CALLS:
+            given = copy.deepcopy(args)
+            found = lists_in(call(*given, **kwargs)) + lists_in(call(*given, **kwargs))
+            objects = {id(part) for part in found}
+            self.assertEqual(len(objects), len(found), call.__name__)
+            self.assertEqual(objects & {id(part) for part in lists_in(given)}, set(), call.__name__)
+
+    def test_returned_lists_may_be_modified(self):
+        for call, args, kwargs in CALLS:
+            given = copy.deepcopy(args)
+            first = call(*given, **kwargs)
+            expected = copy.deepcopy(told(first))
+            for part in lists_in(first):
+                part.reverse()
+                part.append("other")
+            self.assertEqual(told(call(*given, **kwargs)), expected, call.__name__)
+            self.assertEqual(given, args, call.__name__)
+
+
+if __name__ == "__main__":
+    unittest.main()

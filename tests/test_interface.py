@@ -1,0 +1,95 @@
+"""The names, arguments and places of everything that the interface lists."""
+
+import importlib
+import inspect
+import unittest
+
+HANDS = "(mine, theirs)"
+CARD = "(mine, theirs, side, index)"
+PAIR = "(mine, theirs, m, t)"
+PAIRING = "(mine, theirs, pairing)"
+
+FUNCTIONS = {
+    "climbrow.cards": {
+        "wins": "(my_number, their_number)",
+        "deck": HANDS,
+        "place_of": CARD,
+        "rank_of": CARD,
+        "around": "(mine, theirs, side, index, *, down=False)",
+        "next_up": CARD,
+        "next_down": CARD,
+    },
+    "climbrow.walks": {
+        "heights": HANDS,
+        "peak": HANDS,
+        "valley": HANDS,
+        "peak_places": HANDS,
+        "valley_places": HANDS,
+        "crossing": "(mine, theirs, pairing, place)",
+    },
+    "climbrow.rings": {
+        "turn": "(mine, theirs, *, steps=1)",
+        "arc": PAIR,
+        "taken_out": PAIR,
+    },
+    "climbrow.pairings": {
+        "result": PAIRING,
+        "marks": PAIRING,
+        "winners": PAIRING,
+        "rotation": "(mine, theirs, r)",
+        "exchange": "(pairing, a, b)",
+        "distance": "(first, second)",
+        "way": "(first, second)",
+    },
+}
+
+CLASSES = {
+    "climbrow.errors": {
+        "ClimbrowError": {},
+        "BadHands": {"__init__": "(self, mine_count, theirs_count)"},
+        "BadWord": {"__init__": "(self, position)"},
+        "Unsteady": {"__init__": "(self, position)"},
+        "BadCard": {"__init__": "(self, side, index)"},
+        "BadPairing": {"__init__": "(self, index)"},
+        "BadPlace": {"__init__": "(self, place)"},
+        "OutOfTurn": {"__init__": "(self)"},
+        "Unreachable": {"__init__": "(self, wanted, lowest, highest)"},
+        "Contradiction": {"__init__": "(self)"},
+        "BadBounds": {"__init__": "(self, index)"},
+        "BadSchedule": {"__init__": "(self, position)"},
+        "BadText": {"__init__": "(self, position)"},
+        "UnknownName": {"__init__": "(self, name)"},
+        "DuplicateName": {"__init__": "(self, name)"},
+    },
+}
+
+PROPERTIES = {}
+
+
+class InterfaceTest(unittest.TestCase):
+
+    def test_functions_stand_in_their_files_with_their_arguments(self):
+        for module, functions in FUNCTIONS.items():
+            for name, signature in functions.items():
+                function = getattr(importlib.import_module(module), name)
+                self.assertEqual(function.__module__, module, name)
+                self.assertEqual(str(inspect.signature(function)), signature, name)
+
+    def test_classes_stand_in_their_files_and_define_their_methods(self):
+        for module, classes in CLASSES.items():
+            for name, methods in classes.items():
+                found = getattr(importlib.import_module(module), name)
+                self.assertEqual(found.__module__, module, name)
+                for method, signature in methods.items():
+                    self.assertIn(method, vars(found), name)
+                    self.assertEqual(str(inspect.signature(vars(found)[method])), signature, (name, method))
+
+    def test_properties_stand_in_their_classes(self):
+        for (module, name), properties in PROPERTIES.items():
+            found = getattr(importlib.import_module(module), name)
+            for told in properties:
+                self.assertIsInstance(vars(found)[told], property)
+
+
+if __name__ == "__main__":
+    unittest.main()
