@@ -1,6 +1,6 @@
 """Cards, the deck of two hands, and the ring. The hands may have different lengths."""
 
-from climbrow.checks import check_card
+from climbrow.checks import check_side_card
 from climbrow.errors import BadHands
 
 
@@ -20,11 +20,6 @@ def deck(mine, theirs):
 def side_order(mine, theirs, side):
     """Return the indexes of the side's cards in deck order."""
     return [index for whose, index in deck(mine, theirs) if whose == side]
-
-
-def check_side_card(mine, theirs, side, index):
-    """Raise BadCard if the side has no card with that index."""
-    check_card(side, mine if side == "mine" else theirs, index)
 
 
 def place_of(mine, theirs, side, index):
@@ -47,7 +42,7 @@ def ring_from(mine, theirs, side, index):
 
 
 def around(mine, theirs, side, index, *, down=False):
-    """Return the cards of the other side in the order in which they are met, going up or down from the card."""
+    """Return the cards of the other side in the order in which they are met, going up or down the ring."""
     others = [met for whose, met in ring_from(mine, theirs, side, index) if whose != side]
     return others[::-1] if down else others
 

@@ -15,6 +15,11 @@ def check_card(side, hand, index):
         raise BadCard(side, index)
 
 
+def check_side_card(mine, theirs, side, index):
+    """Raise BadCard if the side has no card with that index."""
+    check_card(side, mine if side == "mine" else theirs, index)
+
+
 def check_pair(mine, theirs, m, t):
     """Raise BadCard for the first card of the pair that does not exist."""
     check_card("mine", mine, m)

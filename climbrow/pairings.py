@@ -45,7 +45,7 @@ def exchange(pairing, a, b):
 
 def exchanges_for(pairing, pairs):
     """Return the exchanges (m, other) that put the pairs in place, one after the other."""
-    present = list(pairing)
+    present = pairing
     found = []
     for m, t in pairs:
         if present[m] != t:

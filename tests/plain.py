@@ -62,13 +62,13 @@ def plain_deck(mine, theirs):
     return found
 
 
-def height(mine, theirs, at):
-    below = plain_deck(mine, theirs)[:at]
-    return sum(1 for side, _ in below if side == "theirs") - sum(1 for side, _ in below if side == "mine")
-
-
 def plain_heights(mine, theirs):
-    return [height(mine, theirs, at) for at in range(len(mine) + len(theirs) + 1)]
+    cards = plain_deck(mine, theirs)
+    found = []
+    for at in range(len(cards) + 1):
+        sides = [side for side, _ in cards[:at]]
+        found.append(sides.count("theirs") - sides.count("mine"))
+    return found
 
 
 def met_going_up(mine, theirs, card):
@@ -123,6 +123,82 @@ def shuffled(seed, n):
     pairing = list(range(n))
     random.Random(seed).shuffle(pairing)
     return pairing
+
+
+def plain_levels(mine, theirs, side):
+    """Point 22: the height directly above my card, or directly below their card."""
+    walk = plain_heights(mine, theirs)
+    own = [card for card in cards_of(mine, theirs) if card[0] == side]
+    return [walk[place(mine, theirs, card) + (1 if side == "mine" else 0)] for card in own]
+
+
+def plain_row(mine, theirs):
+    return sorted(plain_levels(mine, theirs, "theirs"))
+
+
+def all_words(n):
+    return ["".join(letters) for letters in itertools.product("MT", repeat=n)]
+
+
+def all_rows(n):
+    """Every ascending list with steps of 0 or 1 that point 24 calls a row."""
+    found = [[first] for first in range(-n - 1, 1)] if n else [[]]
+    for _ in range(n - 1):
+        found = [row + [row[-1] + step] for row in found for step in (0, 1)]
+    return [row for row in found if not row or row[-1] >= -1]
+
+
+def sample_lists():
+    """Rows, and lists that were counted in or struck, most of which are not rows of hands."""
+    found = [row for n in range(6) for row in all_rows(n)]
+    for mine, theirs in all_orders(4):
+        for m, t in itertools.product(range(4), repeat=2):
+            left = plain_row(without(mine, m), without(theirs, t))
+            found.append([entry + won(mine, theirs, m, t) for entry in left])
+        found.append([entry + 5 for entry in plain_row(mine, theirs)])
+    for row in all_rows(4):
+        found += [row[1:], [entry + 1 for entry in row[:-1]], [entry + 2 for entry in row[:-2]]]
+    return [list(row) for row in sorted({tuple(row) for row in found})]
+
+
+def played(mine, theirs, word, many):
+    """The result of a duel in which both sides play best, by trying all plays of both sides."""
+    def best(my_left, their_left):
+        if not my_left:
+            return 0
+        if (my_left, their_left) not in known:
+            letter = word[len(word) - len(my_left)]
+            made = {(m, t): won(mine, theirs, m, t) + best(my_left - {m}, their_left - {t})
+                    for m in my_left for t in their_left}
+            choose_mine, choose_theirs = (max, min) if many == "mine" else (min, max)
+            if letter == "M":
+                found = choose_mine(choose_theirs(made[m, t] for t in their_left) for m in my_left)
+            else:
+                found = choose_theirs(choose_mine(made[m, t] for m in my_left) for t in their_left)
+            known[my_left, their_left] = found
+        return known[my_left, their_left]
+    known = {}
+    return best(frozenset(range(len(mine))), frozenset(range(len(theirs))))
+
+
+def forced(mine, theirs, word):
+    """All results that mine can bring about exactly, by trying all plays of both sides."""
+    def can(my_left, their_left, wanted):
+        if not my_left:
+            return wanted == 0
+        key = (my_left, their_left, wanted)
+        if key not in known:
+            letter = word[len(word) - len(my_left)]
+            made = {(m, t): can(my_left - {m}, their_left - {t}, wanted - won(mine, theirs, m, t))
+                    for m in my_left for t in their_left}
+            if letter == "M":
+                known[key] = any(all(made[m, t] for t in their_left) for m in my_left)
+            else:
+                known[key] = all(any(made[m, t] for m in my_left) for t in their_left)
+        return known[key]
+    known = {}
+    whole = (frozenset(range(len(mine))), frozenset(range(len(theirs))))
+    return [wanted for wanted in range(-1, len(mine) + 2) if can(*whole, wanted)]
 
 
 def sample_hands():

@@ -3,9 +3,10 @@
 import copy
 import unittest
 
-from climbrow import cards, pairings, rings, walks
+from climbrow import cards, levels, pairings, reserves, rings, rows, spans, turns, walks
 
 MINE, THEIRS, PAIRING = [3, 1, 2, 2], [2, 2, 0, 3], [2, 0, 3, 1]
+ROW = [-1, 0, 0, 1]
 
 CALLS = [
     (cards.deck, (MINE, THEIRS), {}),
@@ -44,6 +45,36 @@ CALLS = [
     (pairings.distance, (PAIRING, [0, 1, 2, 3]), {}),
     (pairings.way, (PAIRING, [0, 1, 2, 3]), {}),
     (pairings.way, (PAIRING, PAIRING), {}),
+    (spans.least, (MINE, THEIRS), {}),
+    (spans.most, (MINE, THEIRS), {}),
+    (spans.span_of, (MINE, THEIRS), {}),
+    (spans.pairing_with, (MINE, THEIRS, 2), {}),
+    (spans.rise_and_fall, (MINE, THEIRS, 2, 3), {}),
+    (reserves.reserve, (MINE, THEIRS), {}),
+    (reserves.counter_reserve, (MINE, THEIRS), {}),
+    (reserves.toward, (MINE, THEIRS, PAIRING), {}),
+    (reserves.toward, (MINE, THEIRS, PAIRING), {"goal": "least"}),
+    (levels.level, (MINE, THEIRS, "mine", 0), {}),
+    (levels.side_levels, (MINE, THEIRS, "theirs"), {}),
+    (levels.row_of, (MINE, THEIRS), {}),
+    (levels.mates, (MINE, THEIRS), {}),
+    (levels.row_after, (MINE, THEIRS, 2, 3), {}),
+    (rows.is_row, (ROW,), {}),
+    (rows.blocks, (ROW,), {}),
+    (rows.span_of_row, (ROW,), {}),
+    (rows.struck, (ROW, ""), {}),
+    (rows.struck, (ROW, "MT"), {}),
+    (rows.struck, (ROW, "TMTT"), {"many": "theirs"}),
+    (rows.struck, ([], ""), {}),
+    (rows.value, (ROW, "MTTM"), {}),
+    (rows.value_of, (MINE, THEIRS, "MTTM"), {"many": "theirs"}),
+    (rows.all_values, (ROW,), {}),
+    (rows.all_values, ([],), {}),
+    (turns.turn_worth, (ROW, "MTTM", 2), {}),
+    (turns.turns_needed, (ROW, 3), {}),
+    (turns.last_lay_worth, (ROW, 2), {}),
+    (turns.exact_range, (ROW, "MTTM"), {}),
+    (turns.can_force, (ROW, "MTTM", 2), {}),
 ]
 
 

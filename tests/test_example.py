@@ -4,8 +4,14 @@ import unittest
 
 import plain
 from climbrow.cards import deck, next_up
+from climbrow.errors import BadWord, Unreachable
+from climbrow.levels import row_after, row_of, side_levels
 from climbrow.pairings import marks, result, rotation
+from climbrow.reserves import reserve
 from climbrow.rings import arc, taken_out
+from climbrow.rows import all_values, blocks, struck, value
+from climbrow.spans import least, most, pairing_with
+from climbrow.turns import can_force, exact_range
 from climbrow.walks import crossing, heights, peak, peak_places, valley
 
 MINE, THEIRS = [1, 1, 2], [1, 1, 2]
@@ -39,6 +45,33 @@ class ExampleTest(plain.Case, unittest.TestCase):
 
     def test_the_pair_of_the_arc_taken_out(self):
         self.assertEqual(taken_out(MINE, THEIRS, 1, 0), ([1, 2], [1, 2]))
+
+    def test_least_and_most(self):
+        self.assertEqual((least(MINE, THEIRS), most(MINE, THEIRS)), (2, 3))
+
+    def test_pairing_with(self):
+        self.assertEqual(pairing_with(MINE, THEIRS, 2), [2, 0, 1])
+        self.raises(Unreachable, {"wanted": 1, "lowest": 2, "highest": 3}, pairing_with, MINE, THEIRS, 1)
+
+    def test_reserve(self):
+        self.assertEqual(reserve(MINE, THEIRS), [(2, 2)])
+
+    def test_levels_and_rows(self):
+        self.assertEqual(side_levels(MINE, THEIRS, "mine"), [1, 0, 0])
+        self.assertEqual(side_levels(MINE, THEIRS, "theirs"), [0, 1, 0])
+        self.assertEqual([row_of(MINE, THEIRS), row_after(MINE, THEIRS, 1, 0)], [[0, 0, 1], [1, 1]])
+        self.assertEqual(blocks([0, 0, 1]), [2, 1])
+
+    def test_values(self):
+        self.assertEqual([all_values([0, 0, 1]), value([0, 0, 1], "TTM"), value([0, 0, 1], "MMT")], [[2, 2, 3], 3, 2])
+        self.raises(BadWord, {"position": 2}, value, [0, 0, 1], "MT")
+
+    def test_strikes(self):
+        self.assertEqual([struck([0, 0, 1], "T"), struck([0, 0, 1], "TT")], [[1, 1], [2]])
+        self.assertEqual([struck([0, 0, 1], "M"), struck([0, 0, 1], "MM")], [[0, 1], [1]])
+
+    def test_exact_range(self):
+        self.assertEqual([exact_range([0, 0, 1], "TTM"), can_force([0, 0, 1], "TTM", 2)], [(2, 3), True])
 
 
 if __name__ == "__main__":

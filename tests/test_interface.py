@@ -41,6 +41,42 @@ FUNCTIONS = {
         "distance": "(first, second)",
         "way": "(first, second)",
     },
+    "climbrow.spans": {
+        "least": HANDS,
+        "most": HANDS,
+        "span_of": HANDS,
+        "pairing_with": "(mine, theirs, wanted)",
+        "rise_and_fall": PAIR,
+    },
+    "climbrow.reserves": {
+        "reserve": HANDS,
+        "counter_reserve": HANDS,
+        "toward": "(mine, theirs, pairing, *, goal='most')",
+    },
+    "climbrow.levels": {
+        "level": CARD,
+        "side_levels": "(mine, theirs, side)",
+        "row_of": HANDS,
+        "mates": HANDS,
+        "row_after": PAIR,
+    },
+    "climbrow.rows": {
+        "is_row": "(levels)",
+        "blocks": "(row)",
+        "span_of_row": "(row)",
+        "struck": "(row, word, *, many='mine')",
+        "value": "(row, word, *, many='mine')",
+        "value_of": "(mine, theirs, word, *, many='mine')",
+        "all_values": "(row)",
+    },
+    "climbrow.turns": {
+        "turn_worth": "(row, word, index, *, many='mine')",
+        "turns_needed": "(row, wanted)",
+        "last_lay_worth": "(row, lays)",
+        "exact_range": "(row, word)",
+        "is_steady": "(word)",
+        "can_force": "(row, word, wanted)",
+    },
 }
 
 CLASSES = {
@@ -61,9 +97,16 @@ CLASSES = {
         "UnknownName": {"__init__": "(self, name)"},
         "DuplicateName": {"__init__": "(self, name)"},
     },
+    "climbrow.spans": {
+        "Span": {
+            "__init__": "(self, least, most)",
+            "__add__": "(self, other)",
+            "__contains__": "(self, number)",
+        },
+    },
 }
 
-PROPERTIES = {}
+PROPERTIES = {("climbrow.spans", "Span"): ("width",)}
 
 
 class InterfaceTest(unittest.TestCase):

@@ -52,6 +52,7 @@ class CrossingTest(plain.Case, unittest.TestCase):
 
     def check_crossing(self, mine, theirs, pairing):
         cards = plain.plain_deck(mine, theirs)
+        walk = plain.plain_heights(mine, theirs)
         for at in range(2 * len(mine) + 1):
             below = cards[:at]
             across = [(m, t) for m, t in enumerate(pairing) if (("mine", m) in below) != (("theirs", t) in below)]
@@ -59,7 +60,7 @@ class CrossingTest(plain.Case, unittest.TestCase):
             found = crossing(mine, theirs, pairing, at)
             self.assertEqual(found, (won, len(across) - won))
             self.assertIsInstance(found, tuple)
-            self.assertEqual(found[0] - found[1], plain.height(mine, theirs, at))
+            self.assertEqual(found[0] - found[1], walk[at])
 
     def test_all_pairings_of_small_hands(self):
         for mine, theirs in plain.small_hands(0) + plain.small_hands(2) + plain.all_orders(3) + plain.all_orders(4)[::7]:
