@@ -8,6 +8,11 @@ def laying_side(letter):
     return "mine" if letter == "M" else "theirs"
 
 
+def other_side(side):
+    """Return the side that the given one plays against."""
+    return "theirs" if side == "mine" else "mine"
+
+
 def check_letters(word):
     """Raise BadWord if the word has a wrong letter."""
     for position, letter in enumerate(word):

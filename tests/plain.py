@@ -181,6 +181,25 @@ def played(mine, theirs, word, many):
     return best(frozenset(range(len(mine))), frozenset(range(len(theirs))))
 
 
+def after_pair(mine, theirs, m, t):
+    """The row that is left, counted in (point 23)."""
+    return [entry + won(mine, theirs, m, t) for entry in plain_row(without(mine, m), without(theirs, t))]
+
+
+def answers_in_order(mine, theirs, side, index):
+    """The cards of the other side, going up the ring from the laid card."""
+    return [k for whose, k in met_going_up(mine, theirs, (side, index)) if whose != side]
+
+
+def pair_of(side, laid, answer):
+    return (laid, answer) if side == "mine" else (answer, laid)
+
+
+def worth(mine, theirs, m, t, letters, many):
+    """The value of a pair that is made: what all later plays bring about, this pair included."""
+    return won(mine, theirs, m, t) + played(without(mine, m), without(theirs, t), letters, many)
+
+
 def forced(mine, theirs, word):
     """All results that mine can bring about exactly, by trying all plays of both sides."""
     def can(my_left, their_left, wanted):

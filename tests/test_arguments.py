@@ -3,7 +3,7 @@
 import copy
 import unittest
 
-from climbrow import cards, levels, pairings, reserves, rings, rows, spans, turns, walks
+from climbrow import cards, kinds, levels, moves, pairings, reserves, rings, rows, spans, turns, walks
 
 MINE, THEIRS, PAIRING = [3, 1, 2, 2], [2, 2, 0, 3], [2, 0, 3, 1]
 ROW = [-1, 0, 0, 1]
@@ -75,6 +75,26 @@ CALLS = [
     (turns.last_lay_worth, (ROW, 2), {}),
     (turns.exact_range, (ROW, "MTTM"), {}),
     (turns.can_force, (ROW, "MTTM", 2), {}),
+    (kinds.alike, (MINE, THEIRS, THEIRS, MINE), {}),
+    (kinds.kinds, (0,), {}),
+    (kinds.kinds, (4,), {}),
+    (kinds.kind_at, (0, 0), {}),
+    (kinds.kind_at, (4, 9), {}),
+    (kinds.kind_index, (ROW,), {}),
+    (kinds.order_of, (MINE, THEIRS), {}),
+    (kinds.plain_hands, ("MTTM",), {}),
+    (kinds.plain_hands, ("",), {}),
+    (kinds.count_orders, (ROW,), {}),
+    (kinds.plainest, (ROW,), {}),
+    (kinds.plainest, ([],), {}),
+    (moves.chain, (MINE, THEIRS, "mine", 2), {}),
+    (moves.chain, ([1], [1], "theirs", 0), {}),
+    (moves.lay_values, (MINE, THEIRS, "MTTM"), {}),
+    (moves.lay_values, ([], [], ""), {}),
+    (moves.answer_values, (MINE, THEIRS, "MTTM", 1), {"many": "theirs"}),
+    (moves.best_lays, (MINE, THEIRS, "TTTM"), {}),
+    (moves.best_lays, ([], [], ""), {}),
+    (moves.best_answers, (MINE, THEIRS, "TTTM", 1), {"many": "theirs"}),
 ]
 
 

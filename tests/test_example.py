@@ -5,6 +5,7 @@ import unittest
 import plain
 from climbrow.cards import deck, next_up
 from climbrow.errors import BadWord, Unreachable
+from climbrow.kinds import count_orders, order_of
 from climbrow.levels import row_after, row_of, side_levels
 from climbrow.pairings import marks, result, rotation
 from climbrow.reserves import reserve
@@ -72,6 +73,10 @@ class ExampleTest(plain.Case, unittest.TestCase):
 
     def test_exact_range(self):
         self.assertEqual([exact_range([0, 0, 1], "TTM"), can_force([0, 0, 1], "TTM", 2)], [(2, 3), True])
+
+    def test_orders(self):
+        self.assertEqual(order_of(MINE, THEIRS), "TTMMTM")
+        self.assertEqual(count_orders([0, 0, 1]), 2)
 
 
 if __name__ == "__main__":

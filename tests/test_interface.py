@@ -8,6 +8,8 @@ HANDS = "(mine, theirs)"
 CARD = "(mine, theirs, side, index)"
 PAIR = "(mine, theirs, m, t)"
 PAIRING = "(mine, theirs, pairing)"
+WORD = "(mine, theirs, word, *, many='mine')"
+LAID = "(mine, theirs, word, index, *, many='mine')"
 
 FUNCTIONS = {
     "climbrow.cards": {
@@ -77,6 +79,24 @@ FUNCTIONS = {
         "is_steady": "(word)",
         "can_force": "(row, word, wanted)",
     },
+    "climbrow.kinds": {
+        "alike": "(mine, theirs, other_mine, other_theirs)",
+        "count_kinds": "(n)",
+        "kinds": "(n)",
+        "kind_at": "(n, index)",
+        "kind_index": "(row)",
+        "order_of": HANDS,
+        "plain_hands": "(order)",
+        "count_orders": "(row)",
+        "plainest": "(row)",
+    },
+    "climbrow.moves": {
+        "chain": CARD,
+        "lay_values": WORD,
+        "answer_values": LAID,
+        "best_lays": WORD,
+        "best_answers": LAID,
+    },
 }
 
 CLASSES = {
@@ -104,9 +124,42 @@ CLASSES = {
             "__contains__": "(self, number)",
         },
     },
+    "climbrow.duels": {
+        "Duel": {
+            "__init__": "(self, mine, theirs, word='')",
+            "__iter__": "(self)",
+            "call": "(self, letter)",
+            "lay": "(self, index)",
+            "answer": "(self, index)",
+            "draw": "(self, my_number, their_number)",
+            "rest": "(self)",
+            "row": "(self)",
+            "value": "(self, letters, *, many='mine')",
+        },
+    },
+    "climbrow.guides": {
+        "Guide": {
+            "__init__": "(self, mine, theirs, side, *, many='mine')",
+            "lay": "(self)",
+            "answer": "(self, index)",
+            "saw": "(self, m, t)",
+            "promise": "(self, word)",
+        },
+    },
+    "climbrow.exact": {
+        "ExactGuide": {
+            "__init__": "(self, mine, theirs, word, wanted)",
+            "lay": "(self)",
+            "answer": "(self, index)",
+            "saw": "(self, m, t)",
+        },
+    },
 }
 
-PROPERTIES = {("climbrow.spans", "Span"): ("width",)}
+PROPERTIES = {
+    ("climbrow.spans", "Span"): ("width",),
+    ("climbrow.duels", "Duel"): ("due", "rounds_left"),
+}
 
 
 class InterfaceTest(unittest.TestCase):

@@ -1,0 +1,47 @@
+"""The cards that are left of two hands."""
+
+from climbrow.errors import BadCard
+
+
+class Remains:
+    """The cards that are left of two hands, named by their indexes in the whole hands."""
+
+    def __init__(self, mine, theirs):
+        self.numbers = {"mine": list(mine), "theirs": list(theirs)}
+        self.left = {"mine": list(range(len(mine))), "theirs": list(range(len(theirs)))}
+
+    def hand(self, side):
+        """Return the numbers of the side's cards that are left."""
+        return [self.numbers[side][index] for index in self.left[side]]
+
+    def hands(self):
+        """Return the numbers of the cards that are left, as two hands."""
+        return self.hand("mine"), self.hand("theirs")
+
+    def check(self, side, index):
+        """Raise BadCard if the side's card is gone or never existed."""
+        if index not in self.left[side]:
+            raise BadCard(side, index)
+
+    def check_pair(self, m, t):
+        """Raise BadCard for the first card of the pair that is not left."""
+        self.check("mine", m)
+        self.check("theirs", t)
+
+    def position(self, side, index):
+        """Return the index that the card has in the hand of the cards that are left."""
+        return self.left[side].index(index)
+
+    def drop(self, side, index):
+        """Take away a card of the side."""
+        self.left[side].remove(index)
+
+    def drop_pair(self, m, t):
+        """Take away the two cards of a pair."""
+        self.drop("mine", m)
+        self.drop("theirs", t)
+
+    def grow(self, side, number):
+        """Put a new card at the end of the side's hand."""
+        self.left[side].append(len(self.numbers[side]))
+        self.numbers[side].append(number)
