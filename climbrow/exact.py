@@ -60,8 +60,7 @@ class ExactGuide:
         left_mine, left_theirs = self._cards.hands()
         t = self._cards.position("theirs", index)
         order = around(left_mine, left_theirs, "theirs", t)
-        keeping = [m for m in order if len(order) > 1
-                   and answer_keeps(left_mine, left_theirs, m, t, self.word, self.needed)]
+        keeping = [m for m in order if answer_keeps(left_mine, left_theirs, m, t, self.word, self.needed)]
         return self._cards.left["mine"][(keeping + order)[0]]
 
     def saw(self, m, t):

@@ -92,6 +92,10 @@ class KindsTest(plain.Case, unittest.TestCase):
         self.assertEqual([count_kinds(n) for n in range(10)], [1, 2, 5, 12, 28, 64, 144, 320, 704, 1536])
         self.assertEqual(count_kinds(40), 43 * 2 ** 40 // 4)
 
+    def test_no_row_has_less_than_no_entries(self):
+        self.assertEqual([count_kinds(-1), kinds(-1)], [0, []])
+        self.raises(BadPlace, {"place": 0}, kind_at, -1, 0)
+
     def test_known_lists(self):
         self.assertEqual(kinds(0), [[]])
         self.assertEqual(kinds(1), [[-1], [0]])
