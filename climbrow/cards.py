@@ -9,6 +9,11 @@ def wins(my_number, their_number):
     return my_number >= their_number
 
 
+def as_pair(side, own, other):
+    """Return the pair of a card of the side and a card of the other side."""
+    return (own, other) if side == "mine" else (other, own)
+
+
 def deck(mine, theirs):
     """Return all cards of both hands in ascending order, as tuples (side, index)."""
     # The middle entry settles equal numbers: all cards of theirs (0) stand before all cards of mine (1).

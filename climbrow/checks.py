@@ -1,6 +1,6 @@
 """The checks that many functions make first."""
 
-from climbrow.errors import BadCard, BadHands, BadPairing, BadPlace
+from climbrow.errors import BadCard, BadHands, BadPairing, BadPlace, OutOfTurn
 
 
 def check_hands(mine, theirs):
@@ -42,3 +42,10 @@ def check_place(place, lowest, highest):
     """Raise BadPlace if the place is not from the lowest to the highest."""
     if not lowest <= place <= highest:
         raise BadPlace(place)
+
+
+def acting_side(due, deed):
+    """Return the side that must act; raise OutOfTurn if another deed is due, or none."""
+    if due is None or due[1] != deed:
+        raise OutOfTurn()
+    return due[0]

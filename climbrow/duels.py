@@ -1,7 +1,7 @@
 """The referee of one duel."""
 
-from climbrow.cards import wins
-from climbrow.checks import check_hands
+from climbrow.cards import as_pair
+from climbrow.checks import acting_side, check_hands
 from climbrow.errors import BadWord, OutOfTurn
 from climbrow.levels import row_of
 from climbrow.remains import Remains
@@ -50,21 +50,20 @@ class Duel:
 
     def lay(self, index):
         """Lay a card of the side that must act."""
-        side = self._acting("lay")
+        side = acting_side(self.due, "lay")
         self._cards.check(side, index)
         self._cards.drop(side, index)
         self.open_card = (side, index)
 
     def answer(self, index):
         """Answer the open card with a card of the side that must act."""
-        side = self._acting("answer")
+        side = acting_side(self.due, "answer")
         self._cards.check(side, index)
         self._cards.drop(side, index)
-        laid = self.open_card[1]
-        m, t = (index, laid) if side == "mine" else (laid, index)
+        m, t = as_pair(side, index, self.open_card[1])
         self.open_card = None
         self.pairs.append((m, t))
-        self.won = self.won + int(wins(self.mine[m], self.theirs[t]))
+        self.won = self.won + self._cards.gain(m, t)
 
     def draw(self, my_number, their_number):
         """Add a late pair: a new card at the end of each hand."""
@@ -89,12 +88,6 @@ class Duel:
         self._check_no_open_card()
         left_mine, left_theirs = self._cards.hands()
         return self.won + value_of(left_mine, left_theirs, letters, many=many)
-
-    def _acting(self, deed):
-        """Return the side that must do the deed; raise OutOfTurn if it is not due."""
-        if self.due is None or self.due[1] != deed:
-            raise OutOfTurn()
-        return self.due[0]
 
     def _check_no_open_card(self):
         if self.open_card is not None:

@@ -1,6 +1,6 @@
 """A guide that brings about exactly a wanted result for mine."""
 
-from climbrow.cards import around, next_down, next_up, side_order, wins
+from climbrow.cards import around, next_down, next_up, side_order
 from climbrow.errors import OutOfTurn, Unreachable
 from climbrow.levels import row_after, row_of, side_levels
 from climbrow.remains import Remains
@@ -67,5 +67,5 @@ class ExactGuide:
         """Take note of the pair that was made in this round."""
         self._cards.check_pair(m, t)
         self._cards.drop_pair(m, t)
-        self.needed = self.needed - int(wins(self._cards.numbers["mine"][m], self._cards.numbers["theirs"][t]))
+        self.needed = self.needed - self._cards.gain(m, t)
         self.word = self.word[1:]

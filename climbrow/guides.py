@@ -1,6 +1,5 @@
 """A guide that plays a duel for one side."""
 
-from climbrow.cards import wins
 from climbrow.checks import check_hands
 from climbrow.errors import OutOfTurn
 from climbrow.plans import planned_answer, planned_lay
@@ -38,7 +37,7 @@ class Guide:
         """Take note of a pair that was made."""
         self._cards.check_pair(m, t)
         self._cards.drop_pair(m, t)
-        self.won = self.won + int(wins(self._cards.numbers["mine"][m], self._cards.numbers["theirs"][t]))
+        self.won = self.won + self._cards.gain(m, t)
 
     def promise(self, word):
         """Return the result to which the guide's side can hold under the word of the rounds that are left."""

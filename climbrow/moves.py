@@ -1,17 +1,12 @@
 """What each lay and each answer is worth."""
 
-from climbrow.cards import around, wins
+from climbrow.cards import around, as_pair, wins
 from climbrow.checks import check_hands, check_side_card
 from climbrow.levels import row_after
 from climbrow.plans import planned_answer
 from climbrow.rings import taken_out
 from climbrow.rows import value_of
 from climbrow.words import check_word, laying_side, other_side
-
-
-def as_pair(side, index, answer):
-    """Return the pair of the card that the side laid and of the other side's answer."""
-    return (index, answer) if side == "mine" else (answer, index)
 
 
 def chain(mine, theirs, side, index):

@@ -1,5 +1,6 @@
 """The cards that are left of two hands."""
 
+from climbrow.cards import wins
 from climbrow.errors import BadCard
 
 
@@ -32,6 +33,14 @@ class Remains:
         """Return the index that the card has in the hand of the cards that are left."""
         return self.left[side].index(index)
 
+    def named(self, pairs):
+        """Return the pairs of two positions in the hands that are left, named by indexes in the whole hands."""
+        return [(self.left["mine"][m], self.left["theirs"][t]) for m, t in pairs]
+
+    def gain(self, m, t):
+        """Return 1 if the pair is won, and 0 otherwise."""
+        return int(wins(self.numbers["mine"][m], self.numbers["theirs"][t]))
+
     def drop(self, side, index):
         """Take away a card of the side."""
         self.left[side].remove(index)
@@ -40,6 +49,10 @@ class Remains:
         """Take away the two cards of a pair."""
         self.drop("mine", m)
         self.drop("theirs", t)
+
+    def put_back(self, side, index):
+        """Give the side a card of its own again that was taken away."""
+        self.left[side] = sorted(self.left[side] + [index])
 
     def grow(self, side, number):
         """Put a new card at the end of the side's hand."""

@@ -8,10 +8,12 @@ from climbrow.errors import BadWord, Unreachable
 from climbrow.kinds import count_orders, order_of
 from climbrow.levels import row_after, row_of, side_levels
 from climbrow.pairings import marks, result, rotation
+from climbrow.picks import best_picks, picked_value
 from climbrow.reserves import reserve
 from climbrow.rings import arc, taken_out
 from climbrow.rows import all_values, blocks, struck, value
-from climbrow.spans import least, most, pairing_with
+from climbrow.seasons import season_run
+from climbrow.spans import Span, least, most, pairing_with
 from climbrow.turns import can_force, exact_range
 from climbrow.walks import crossing, heights, peak, peak_places, valley
 
@@ -77,6 +79,13 @@ class ExampleTest(plain.Case, unittest.TestCase):
     def test_orders(self):
         self.assertEqual(order_of(MINE, THEIRS), "TTMMTM")
         self.assertEqual(count_orders([0, 0, 1]), 2)
+
+    def test_season_run(self):
+        self.assertEqual(season_run(Span(1, 4), "T", 1, "M"), ([(1, 4), (1, 3)], [2, 3]))
+
+    def test_picks(self):
+        rows = [[0, 0], [0]]
+        self.assertEqual([picked_value(rows, "MTM"), best_picks(rows, "MTM")], [3, [1]])
 
 
 if __name__ == "__main__":

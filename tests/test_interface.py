@@ -10,6 +10,7 @@ PAIR = "(mine, theirs, m, t)"
 PAIRING = "(mine, theirs, pairing)"
 WORD = "(mine, theirs, word, *, many='mine')"
 LAID = "(mine, theirs, word, index, *, many='mine')"
+PICKED = "(rows, word, *, picker='layer', many='mine')"
 
 FUNCTIONS = {
     "climbrow.cards": {
@@ -97,6 +98,24 @@ FUNCTIONS = {
         "best_lays": WORD,
         "best_answers": LAID,
     },
+    "climbrow.bills": {
+        "rises_and_falls": "(mine, theirs, course)",
+        "slips": "(mine, theirs, word, course, *, many='mine')",
+    },
+    "climbrow.seasons": {
+        "season_run": "(span, before, takebacks, after, *, layer='mine')",
+        "season_value": "(span, before, takebacks, after, *, layer='mine')",
+    },
+    "climbrow.tables": {
+        "schedule_words": "(tables, schedule)",
+        "schedule_value": "(tables, schedule, *, many='mine')",
+        "joint_span": "(tables)",
+        "merged": "(tables)",
+    },
+    "climbrow.picks": {
+        "picked_value": PICKED,
+        "best_picks": PICKED,
+    },
 }
 
 CLASSES = {
@@ -154,11 +173,32 @@ CLASSES = {
             "saw": "(self, m, t)",
         },
     },
+    "climbrow.seasons": {
+        "Season": {
+            "__init__": "(self, mine, theirs, before, takebacks, after, *, layer='mine')",
+            "bind": "(self, m, t)",
+            "pass_turn": "(self)",
+            "lay": "(self, index)",
+            "answer": "(self, index)",
+            "keep": "(self)",
+            "take_back": "(self, index)",
+            "exchange": "(self, a, b)",
+            "won_count": "(self)",
+        },
+    },
+    "climbrow.stewards": {
+        "Steward": {
+            "__init__": "(self, mine, theirs, before, takebacks, after, *, side, layer='mine')",
+            "move": "(self)",
+            "saw": "(self, deed)",
+        },
+    },
 }
 
 PROPERTIES = {
     ("climbrow.spans", "Span"): ("width",),
     ("climbrow.duels", "Duel"): ("due", "rounds_left"),
+    ("climbrow.seasons", "Season"): ("part", "due"),
 }
 
 
