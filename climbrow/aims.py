@@ -14,8 +14,7 @@ def reserve_for(side, cards):
 class Aim:
     """What a steward keeps in mind from the beginning of the middle part on.
 
-    The goal is the most for mine, and the least for theirs. The way is a list of exchanges that lead the pairing
-    in mind to one with the goal; it is never longer than the most minus the least.
+    The goal is the most for mine, and the least for theirs. Each pairing that has all reserved pairs has it.
     """
 
     def __init__(self, side, season):
@@ -28,20 +27,16 @@ class Aim:
         self.hi = span.most + won
         self.reserved = reserve_for(side, season.cards)
         self.pairing = [t for _, t in sorted(season.bound + planned)]
-        self.way = []
 
     def follow(self, made):
         """Make the pairing in mind agree with the pairs that were made."""
-        for m, t in made:
-            if self.pairing[m] != t:
-                self._swap(m, self.pairing.index(t))
+        steps = exchanges_for(self.pairing, made)
+        for a, b in steps:
+            self.pairing = exchange(self.pairing, a, b)
 
-    def _swap(self, a, b):
-        """Swap the partners of two cards of mine in the pairing in mind, and keep the way to the goal."""
-        self.pairing = exchange(self.pairing, a, b)
-        if self.way and sorted(self.way[0]) == sorted([a, b]):
-            back = self.way[1:]
-        else:
-            # The same exchange made once more takes it back.
-            back = [(a, b)] + self.way
-        self.way = min(back, exchanges_for(self.pairing, self.reserved), key=len)
+    def way(self):
+        """Return the exchanges that lead the pairing in mind to one with the goal."""
+        # No list of exchanges that puts all reserved pairs in place is shorter: each exchange of this one makes one
+        # more cycle of cards of mine that take each other's places. So an exchange of the other side makes the way
+        # longer by one exchange at most, and its own first exchange makes it shorter by one.
+        return exchanges_for(self.pairing, self.reserved)

@@ -151,7 +151,7 @@ class Season:
         if b not in partners or b == a:
             raise BadCard("mine", b)
         partners[a], partners[b] = partners[b], partners[a]
-        self.made = sorted(partners.items())
+        self.made = list(partners.items())
         self.after_left = self.after_left[1:]
 
     def won_count(self):

@@ -57,7 +57,7 @@ class Steward:
             return "answer", self._card_to_answer()
         if due[1] == "keep":
             return self._deed_to_end_round()
-        return pair_deed("exchange", self._aim.way)
+        return pair_deed("exchange", self._aim.way())
 
     def saw(self, deed):
         """Take note of a deed of the season, of either side."""
@@ -98,14 +98,14 @@ class Steward:
             done = len([pair for pair in aim.reserved if pair in season.made])
         else:
             # Each take-back of the other side has made the way longer by one exchange at most.
-            done = len(aim.way)
+            done = len(aim.way())
         lo, hi = (aim.lo + done, aim.hi) if season.layer == "mine" else (aim.lo, aim.hi - done)
         return middle_value(lo, hi, season.takebacks_left, season.layer)
 
     def _sure_in_after(self):
         """Return the result of which the side is sure if no turn follows."""
         aim = self._aim
-        return aim.hi - len(aim.way) if self.side == "mine" else aim.lo + len(aim.way)
+        return aim.hi - len(aim.way()) if self.side == "mine" else aim.lo + len(aim.way())
 
     def _reserved(self):
         """Return the reserved pairs as tuples of the own card and the other side's card."""

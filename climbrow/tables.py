@@ -39,7 +39,6 @@ def schedule_value(tables, schedule, *, many="mine"):
 
 def joint_span(tables):
     """Return the sum of the spans of all tables."""
-    check_tables(tables)
     joint = Span(0, 0)
     for mine, theirs in tables:
         joint = joint + span_of(mine, theirs)

@@ -89,6 +89,9 @@ class ValuesTest(plain.Case, unittest.TestCase):
         self.assertEqual([lay_values(*hands, "TTM", many=many) for many in SIDES], [[3, 3, 3], [2, 2, 2]])
         self.assertEqual([answer_values(*hands, "TTM", 0, many=many) for many in SIDES], [[3, 3, 2], [2, 2, 2]])
         self.assertEqual([best_answers(*hands, "TTM", 0, many=many) for many in SIDES], [[0, 1], [0, 1, 2]])
+        hands = [1, 3, 6], [2, 4, 5]
+        self.assertEqual([best_lays(*hands, "MTM"), best_lays(*hands, "MTM", many="theirs")], [[0, 1, 2], [0, 2]])
+        self.assertEqual([best_lays(*hands, "TMM"), best_lays(*hands, "TMM", many="theirs")], [[1, 2], [0, 1, 2]])
 
     def test_the_last_round(self):
         for many in SIDES:
