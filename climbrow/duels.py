@@ -3,9 +3,7 @@
 from climbrow.cards import as_pair
 from climbrow.checks import acting_side, check_hands
 from climbrow.errors import BadWord, OutOfTurn
-from climbrow.levels import row_of
 from climbrow.remains import Remains
-from climbrow.rows import value_of
 from climbrow.words import check_word_within, laying_side, other_side
 
 
@@ -80,14 +78,12 @@ class Duel:
     def row(self):
         """Return the row of the cards that are left, with the number of won pairs added to each entry."""
         self._check_no_open_card()
-        left_mine, left_theirs = self._cards.hands()
-        return [entry + self.won for entry in row_of(left_mine, left_theirs)]
+        return self._cards.row(self.won)
 
     def value(self, letters, *, many="mine"):
         """Return the result to which both sides can hold under the letters of the rounds that are left."""
         self._check_no_open_card()
-        left_mine, left_theirs = self._cards.hands()
-        return self.won + value_of(left_mine, left_theirs, letters, many=many)
+        return self.won + self._cards.value(letters, many)
 
     def _check_no_open_card(self):
         if self.open_card is not None:

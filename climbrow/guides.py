@@ -2,9 +2,8 @@
 
 from climbrow.checks import check_hands
 from climbrow.errors import OutOfTurn
-from climbrow.plans import planned_answer, planned_lay
+from climbrow.plans import answer_of_rest, lay_of_rest
 from climbrow.remains import Remains
-from climbrow.rows import value_of
 from climbrow.words import other_side
 
 
@@ -20,18 +19,15 @@ class Guide:
 
     def lay(self):
         """Return the card that the plan lays."""
-        left_mine, left_theirs = self._cards.hands()
-        if not left_mine:
+        if not self._cards.left[self.side]:
             raise OutOfTurn()
-        return self._cards.left[self.side][planned_lay(left_mine, left_theirs, self.side, self.many)]
+        return lay_of_rest(self._cards, self.side, self.many)
 
     def answer(self, index):
         """Return the card with which the plan answers the other side's card."""
         laying = other_side(self.side)
         self._cards.check(laying, index)
-        left_mine, left_theirs = self._cards.hands()
-        position = self._cards.position(laying, index)
-        return self._cards.left[self.side][planned_answer(left_mine, left_theirs, laying, position, self.many)]
+        return answer_of_rest(self._cards, laying, index, self.many)
 
     def saw(self, m, t):
         """Take note of a pair that was made."""
@@ -39,7 +35,10 @@ class Guide:
         self._cards.drop_pair(m, t)
         self.won = self.won + self._cards.gain(m, t)
 
+    def row(self):
+        """Return the row of the cards that are left, with the number of won pairs added to each entry."""
+        return self._cards.row(self.won)
+
     def promise(self, word):
         """Return the result to which the guide's side can hold under the word of the rounds that are left."""
-        left_mine, left_theirs = self._cards.hands()
-        return self.won + value_of(left_mine, left_theirs, word, many=self.many)
+        return self.won + self._cards.value(word, self.many)

@@ -2,6 +2,8 @@
 
 from climbrow.cards import wins
 from climbrow.errors import BadCard
+from climbrow.levels import row_of
+from climbrow.rows import value_of
 
 
 class Remains:
@@ -36,6 +38,16 @@ class Remains:
     def named(self, pairs):
         """Return the pairs of two positions in the hands that are left, named by indexes in the whole hands."""
         return [(self.left["mine"][m], self.left["theirs"][t]) for m, t in pairs]
+
+    def row(self, won):
+        """Return the row of the cards that are left, with the number of won pairs added to each entry."""
+        left_mine, left_theirs = self.hands()
+        return [entry + won for entry in row_of(left_mine, left_theirs)]
+
+    def value(self, word, many):
+        """Return the value of the cards that are left."""
+        left_mine, left_theirs = self.hands()
+        return value_of(left_mine, left_theirs, word, many=many)
 
     def gain(self, m, t):
         """Return 1 if the pair is won, and 0 otherwise."""

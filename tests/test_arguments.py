@@ -3,8 +3,8 @@
 import copy
 import unittest
 
-from climbrow import (bills, cards, kinds, levels, moves, pairings, picks, reserves, rings, rows, seasons, spans, tables,
-                      turns, walks)
+from climbrow import (bills, cards, changes, hidden, kinds, levels, moves, pairings, picks, reserves, rings, rows, seasons,
+                      spans, tables, told, turns, uneven, walks)
 
 MINE, THEIRS, PAIRING = [3, 1, 2, 2], [2, 2, 0, 3], [2, 0, 3, 1]
 ROW = [-1, 0, 0, 1]
@@ -13,6 +13,8 @@ SPAN = spans.Span(1, 4)
 TABLES = [(MINE, THEIRS), ([], []), ([5], [6])]
 SCHEDULE = [(0, "M"), (2, "T"), (0, "T"), (0, "M"), (0, "M")]
 ROWS = [[-1, 0, 0], [], [0]]
+TELLING = {"pairs": [(1, 2)], "won": [0], "lost": [3]}
+BOUNDS = ([1, 2, 0, 3], [4, 2, 1, 9])
 
 CALLS = [
     (cards.deck, (MINE, THEIRS), {}),
@@ -119,6 +121,33 @@ CALLS = [
     (picks.picked_value, (ROWS, "MTTM"), {}),
     (picks.best_picks, (ROWS, "MTTM"), {"picker": "answerer"}),
     (picks.best_picks, ([], ""), {}),
+    (told.breaking_place, (MINE, THEIRS, [2, 0]), {}),
+    (told.breaking_place, (MINE, THEIRS, [1]), {}),
+    (told.count_winner_sets, (MINE, THEIRS, 2), {}),
+    (told.results_told, (MINE, THEIRS), TELLING),
+    (told.results_told, (MINE, THEIRS), {}),
+    (told.pairing_told, (MINE, THEIRS, 3), TELLING),
+    (told.pairing_told, (MINE, THEIRS, 3), {}),
+    (told.pairing_told, ([], [], 0), {}),
+    (told.forced_marks, (MINE, THEIRS), TELLING),
+    (told.forced_marks, (MINE, THEIRS), {"wanted": 3}),
+    (told.forced_marks, ([], []), {}),
+    (hidden.sure_value, (MINE, *BOUNDS, "MTTM"), {}),
+    (hidden.hoped_value, (MINE, *BOUNDS, "MTTM"), {}),
+    (hidden.hand_for, (MINE, *BOUNDS, "MTTM", 2), {}),
+    (hidden.hand_for, (MINE, THEIRS, THEIRS, "MTTM", 3), {}),
+    (hidden.look, (MINE, *BOUNDS, 0, 2), {}),
+    (hidden.look, (MINE, THEIRS, THEIRS, 0, 2), {}),
+    (uneven.top_cards, (MINE, 2), {}),
+    (uneven.top_cards, (MINE, 4), {}),
+    (uneven.uneven_value, (MINE, THEIRS[:3], "MT"), {}),
+    (changes.with_number, (MINE, 1, 1), {}),
+    (changes.cheapest_raise, (MINE, THEIRS, "MTTM", 1), {}),
+    (changes.lift_lowest, (MINE, THEIRS, 0), {}),
+    (changes.lift_lowest, (MINE, THEIRS, 2), {}),
+    (changes.lift_lowest, ([], [], 0), {}),
+    (changes.lifts_needed, (MINE, THEIRS, "MTTM", 4), {}),
+    (changes.late_pair, (MINE, THEIRS, 4, 2), {}),
 ]
 
 
@@ -141,17 +170,19 @@ class ArgumentsTest(unittest.TestCase):
 
     def test_arguments_stay_as_they_were(self):
         for call, args, kwargs in CALLS:
-            given = copy.deepcopy(args)
-            call(*given, **kwargs)
+            given, named = copy.deepcopy(args), copy.deepcopy(kwargs)
+            call(*given, **named)
             self.assertEqual(all_told(given), all_told(args), call.__name__)
+            self.assertEqual(named, kwargs, call.__name__)
 
     def test_returned_lists_are_new_and_no_two_are_the_same(self):
         for call, args, kwargs in CALLS:
-            given = copy.deepcopy(args)
-            found = lists_in(call(*given, **kwargs)) + lists_in(call(*given, **kwargs))
+            given, named = copy.deepcopy(args), copy.deepcopy(kwargs)
+            found = lists_in(call(*given, **named)) + lists_in(call(*given, **named))
             objects = {id(part) for part in found}
             self.assertEqual(len(objects), len(found), call.__name__)
-            self.assertEqual(objects & {id(part) for part in lists_in(given)}, set(), call.__name__)
+            passed = {id(part) for part in lists_in(given) + lists_in(list(named.values()))}
+            self.assertEqual(objects & passed, set(), call.__name__)
 
     def test_returned_lists_may_be_modified(self):
         for call, args, kwargs in CALLS:

@@ -4,7 +4,7 @@ import unittest
 
 import plain
 from climbrow.cards import deck, next_up
-from climbrow.errors import BadWord, Unreachable
+from climbrow.errors import BadWord, Contradiction, Unreachable
 from climbrow.kinds import count_orders, order_of
 from climbrow.levels import row_after, row_of, side_levels
 from climbrow.pairings import marks, result, rotation
@@ -14,6 +14,7 @@ from climbrow.rings import arc, taken_out
 from climbrow.rows import all_values, blocks, struck, value
 from climbrow.seasons import season_run
 from climbrow.spans import Span, least, most, pairing_with
+from climbrow.told import results_told
 from climbrow.turns import can_force, exact_range
 from climbrow.walks import crossing, heights, peak, peak_places, valley
 
@@ -86,6 +87,10 @@ class ExampleTest(plain.Case, unittest.TestCase):
     def test_picks(self):
         rows = [[0, 0], [0]]
         self.assertEqual([picked_value(rows, "MTM"), best_picks(rows, "MTM")], [3, [1]])
+
+    def test_results_told(self):
+        self.assertEqual(results_told(MINE, THEIRS, lost=[0]), (2, 2))
+        self.raises(Contradiction, {}, results_told, MINE, THEIRS, lost=[2])
 
 
 if __name__ == "__main__":

@@ -12,8 +12,10 @@ BUILTINS = set("""len range enumerate zip min max sum abs sorted reversed int st
 repr any all divmod map iter next super Exception ValueError TypeError KeyError IndexError NotImplemented
 property staticmethod classmethod""".split())
 LIBRARY = {"heapq", "math", "itertools", "collections"}
-BARRED = set("""register mro elements open input law type typing enum Enum Generic Protocol ABC namedtuple dataclass overload
-contextmanager abstractmethod os sys globals locals vars eval exec compile delattr dir help id""".split())
+BARRED_WORDS = set("""type typing enum Enum Generic Protocol ABC namedtuple dataclass overload contextmanager
+abstractmethod""".split())
+BARRED_NAMES = BARRED_WORDS | set("""register mro elements open input law os sys globals locals vars eval exec compile
+delattr dir help id""".split())
 STATEMENTS = (ast.Assign, ast.AugAssign, ast.AnnAssign, ast.If, ast.While, ast.For, ast.Return, ast.Break, ast.Continue,
               ast.Pass, ast.Raise, ast.Assert, ast.Delete, ast.Nonlocal, ast.Match, ast.With, ast.Try, ast.Expr,
               ast.FunctionDef, ast.ClassDef, ast.ImportFrom)
@@ -132,9 +134,9 @@ class FormTest(unittest.TestCase):
                     self.assertNotIsInstance(node.value, (float, complex), name)
                     if isinstance(node.value, str):
                         self.assertNotIn("%", node.value, name)
-                        self.assertEqual(set(node.value.split()) & BARRED, set(), name)
+                        self.assertEqual(set(node.value.split()) & BARRED_WORDS, set(), name)
                 for word in (getattr(node, "id", ""), getattr(node, "arg", ""), getattr(node, "attr", "")):
-                    self.assertNotIn(word, BARRED, name)
+                    self.assertNotIn(word, BARRED_NAMES, name)
 
 
 if __name__ == "__main__":

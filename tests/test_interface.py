@@ -116,6 +116,30 @@ FUNCTIONS = {
         "picked_value": PICKED,
         "best_picks": PICKED,
     },
+    "climbrow.told": {
+        "breaking_place": "(mine, theirs, cards)",
+        "count_winner_sets": "(mine, theirs, k)",
+        "results_told": "(mine, theirs, *, pairs=(), won=(), lost=())",
+        "pairing_told": "(mine, theirs, wanted, *, pairs=(), won=(), lost=())",
+        "forced_marks": "(mine, theirs, *, wanted=None, pairs=(), won=(), lost=())",
+    },
+    "climbrow.hidden": {
+        "sure_value": "(mine, lows, highs, word)",
+        "hoped_value": "(mine, lows, highs, word)",
+        "hand_for": "(mine, lows, highs, word, wanted)",
+        "look": "(mine, lows, highs, index, number)",
+    },
+    "climbrow.uneven": {
+        "top_cards": "(hand, rounds)",
+        "uneven_value": "(mine, theirs, word)",
+    },
+    "climbrow.changes": {
+        "with_number": "(hand, index, number)",
+        "cheapest_raise": "(mine, theirs, word, index)",
+        "lift_lowest": "(mine, theirs, count)",
+        "lifts_needed": "(mine, theirs, word, wanted)",
+        "late_pair": "(mine, theirs, my_number, their_number)",
+    },
 }
 
 CLASSES = {
@@ -191,6 +215,35 @@ CLASSES = {
             "__init__": "(self, mine, theirs, before, takebacks, after, *, side, layer='mine')",
             "move": "(self)",
             "saw": "(self, deed)",
+        },
+    },
+    "climbrow.tableguides": {
+        "TableGuide": {
+            "__init__": "(self, tables, side, *, picker='layer', many='mine')",
+            "pick": "(self, word)",
+            "lay": "(self, table)",
+            "answer": "(self, table, index)",
+            "saw": "(self, table, m, t)",
+            "promise": "(self, word)",
+            "schedule_promise": "(self, schedule)",
+        },
+    },
+    "climbrow.hidden": {
+        "HiddenGuide": {
+            "__init__": "(self, mine, lows, highs)",
+            "lay": "(self)",
+            "answer": "(self, index)",
+            "saw": "(self, m, t, number)",
+            "promise": "(self, word)",
+        },
+    },
+    "climbrow.uneven": {
+        "UnevenGuide": {
+            "__init__": "(self, mine, theirs, rounds, side)",
+            "lay": "(self)",
+            "answer": "(self, index)",
+            "saw": "(self, m, t)",
+            "promise": "(self, word)",
         },
     },
 }
