@@ -6,12 +6,17 @@ from climbrow.spans import least, most
 from climbrow.walks import lying_across, peak_places, valley_places
 
 
+def reserved_pairs(mine, theirs, pairing, place):
+    """Return the lost pairs of the pairing that lie across the place and the won pairs that do not."""
+    won = marks(mine, theirs, pairing)
+    across = lying_across(mine, theirs, pairing, place)
+    return [(m, t) for m, t in enumerate(pairing) if won[m] != across[m]]
+
+
 def reserve(mine, theirs):
     """Return the pairs each of which adds 1 to what a pairing has at least."""
     pairing = rotation(mine, theirs, most(mine, theirs))
-    won = marks(mine, theirs, pairing)
-    across = lying_across(mine, theirs, pairing, peak_places(mine, theirs)[0])
-    return [(m, t) for m, t in enumerate(pairing) if won[m] != across[m]]
+    return reserved_pairs(mine, theirs, pairing, peak_places(mine, theirs)[0])
 
 
 def counter_reserve(mine, theirs):

@@ -5,6 +5,9 @@ from climbrow.checks import check_hands
 from climbrow.errors import BadCard, Contradiction, Unreachable
 from climbrow.remains import Remains
 
+# The reasons for which no pairing agrees with a telling at a place, in the order in which they are named.
+REASONS = ("winners", "height")
+
 
 def told_cards(pairs, won, lost):
     """Return all cards that a telling names, in the order in which they are checked."""
@@ -50,26 +53,37 @@ def named_deck(cards):
     return [(side, cards.left[side][position]) for side, position in deck(left_mine, left_theirs)]
 
 
+def marked(order, won, lost):
+    """Return for each card of the deck "theirs", or "won", "lost" or "open" for a card of mine."""
+    told = {}
+    for m in won:
+        told[m] = "won"
+    for m in lost:
+        told[m] = "lost"
+    return ["theirs" if side == "theirs" else told.get(index, "open") for side, index in order]
+
+
 class Telling:
     """A telling of two hands. Its places are those of the hands that are left without the told pairs."""
 
     def __init__(self, mine, theirs, pairs, won, lost):
         check_hands(mine, theirs)
         check_told(len(mine), told_cards(pairs, won, lost))
+        cards = Remains(mine, theirs)
+        for m, t in pairs:
+            cards.drop_pair(m, t)
         self._count = len(mine)
         self._pairs = [(m, t) for m, t in pairs]
         self._won = list(won)
-        self._lost = list(lost)
-        cards = Remains(mine, theirs)
-        for m, t in self._pairs:
-            cards.drop_pair(m, t)
         self._order = named_deck(cards)
-        # For each card of the deck that is left: "theirs", or what is told of my card.
-        self._marks = [self._mark(side, index) for side, index in self._order]
+        self._marks = marked(self._order, won, lost)
         self.open_cards = [card[1] for card, mark in zip(self._order, self._marks) if mark == "open"]
         # The number of winners that are told: those of the pairs, and the won cards.
-        self.sure = sum([cards.gain(m, t) for m, t in self._pairs]) + len(self._won)
-        self.last_place = len(self._order)
+        self.sure = sum([cards.gain(m, t) for m, t in pairs]) + len(won)
+
+    def has_place(self, place):
+        """Return True if the place exists."""
+        return 0 <= place <= len(self._order)
 
     def demand(self, place):
         """Return the number of open winners that the place demands at least."""
@@ -91,19 +105,23 @@ class Telling:
 
     def breaking_places(self, reason):
         """Return the places at which the reason forbids all pairings, in ascending order."""
-        return [place for place in range(self.last_place + 1) if self.breaks(reason, place)]
+        return [place for place in range(len(self._order) + 1) if self.breaks(reason, place)]
+
+    def breaking_place(self):
+        """Return the lowest place at which some reason forbids all pairings, or None."""
+        return min([place for reason in REASONS for place in self.breaking_places(reason)], default=None)
 
     def demands(self):
         """Return the demands of all places."""
-        return [self.demand(place) for place in range(self.last_place + 1)]
+        return [self.demand(place) for place in range(len(self._order) + 1)]
 
     def rooms(self):
         """Return the rooms of all places."""
-        return [self.room(place) for place in range(self.last_place + 1)]
+        return [self.room(place) for place in range(len(self._order) + 1)]
 
     def agrees(self):
         """Return True if some pairing agrees with the telling."""
-        return not self.breaking_places("winners") and not self.breaking_places("height")
+        return self.breaking_place() is None
 
     def results(self):
         """Return the smallest and the greatest result of all pairings that agree with the telling."""
@@ -122,11 +140,3 @@ class Telling:
         for m, t in self._pairs + paired_up(self._order, winning):
             found[m] = t
         return found
-
-    def _mark(self, side, index):
-        """Return what is told of a card of the deck that is left."""
-        if side == "theirs":
-            return "theirs"
-        if index in self._won:
-            return "won"
-        return "lost" if index in self._lost else "open"

@@ -13,9 +13,7 @@ def winners_telling(mine, theirs, cards):
 
 def breaking_place(mine, theirs, cards):
     """Return the lowest place that forbids the cards as set of winners, or None."""
-    telling = winners_telling(mine, theirs, cards)
-    places = telling.breaking_places("winners") + telling.breaking_places("height")
-    return min(places, default=None)
+    return winners_telling(mine, theirs, cards).breaking_place()
 
 
 def allowed_ways(ways, k, height, their_count):

@@ -43,8 +43,9 @@ def valley_places(mine, theirs):
 
 def lying_across(mine, theirs, pairing, place):
     """Return for each of my cards whether exactly one card of its pair is below the place."""
-    below = deck(mine, theirs)[:place]
-    return [(("mine", m) in below) != (("theirs", t) in below) for m, t in enumerate(pairing)]
+    cards = deck(mine, theirs)
+    below = {card: position < place for position, card in enumerate(cards)}
+    return [below[("mine", m)] != below[("theirs", t)] for m, t in enumerate(pairing)]
 
 
 def crossing(mine, theirs, pairing, place):

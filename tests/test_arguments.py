@@ -3,8 +3,8 @@
 import copy
 import unittest
 
-from climbrow import (bills, cards, changes, hidden, kinds, levels, moves, pairings, picks, reserves, rings, rows, seasons,
-                      spans, tables, told, turns, uneven, walks)
+from climbrow import (bills, cards, changes, hidden, kinds, league, levels, lookers, moves, pairings, papers, picks, reserves,
+                      rings, rows, seasons, spans, tables, texts, told, turns, uneven, walks)
 
 MINE, THEIRS, PAIRING = [3, 1, 2, 2], [2, 2, 0, 3], [2, 0, 3, 1]
 ROW = [-1, 0, 0, 1]
@@ -148,6 +148,40 @@ CALLS = [
     (changes.lift_lowest, ([], [], 0), {}),
     (changes.lifts_needed, (MINE, THEIRS, "MTTM", 4), {}),
     (changes.late_pair, (MINE, THEIRS, 4, 2), {}),
+    (league.least_table, ([MINE, THEIRS, MINE],), {}),
+    (league.loss_table, ([MINE, THEIRS, MINE],), {}),
+    (league.loss_table, ([[], []],), {}),
+    (league.beats_all, ([MINE, THEIRS],), {}),
+    (league.joined_pairing, (PAIRING, [3, 1, 0, 2]), {}),
+    (league.joined_pairing, (PAIRING, [0, 1, 2, 3]), {}),
+    (league.joined_pairing, ([], []), {}),
+    (league.commonest, (MINE,), {}),
+    (papers.span_paper, (MINE, THEIRS), {}),
+    (papers.span_paper, ([1], [1]), {}),
+    (papers.span_paper, ([], []), {}),
+    (papers.row_paper, (MINE, THEIRS), {}),
+    (papers.row_paper, ([], []), {}),
+    (papers.value_paper, (MINE, THEIRS, "MTTM"), {}),
+    (papers.winners_paper, (MINE, THEIRS, [3, 1]), {}),
+    (papers.winners_paper, (MINE, THEIRS, [0, 2]), {}),
+    (papers.winners_paper, (MINE, THEIRS, [0, 1, 2, 3]), {}),
+    (papers.winners_paper, ([], [], []), {}),
+    (papers.reserve_paper, (MINE, THEIRS), {}),
+    (papers.reserve_paper, ([], []), {}),
+    (papers.telling_paper, (MINE, THEIRS), TELLING),
+    (papers.telling_paper, (MINE, THEIRS), {}),
+    (papers.telling_paper, ([1], [1]), {"pairs": [(0, 0)]}),
+    (papers.telling_paper, (MINE, THEIRS), {"won": [1, 2], "lost": [0]}),
+    (lookers.look_span, (MINE, THEIRS, papers.span_paper(MINE, THEIRS)), {}),
+    (lookers.look_row, (MINE, THEIRS, papers.row_paper(MINE, THEIRS)), {}),
+    (lookers.look_value, (MINE, THEIRS, papers.value_paper(MINE, THEIRS, "MTTM")), {}),
+    (lookers.look_winners, (MINE, THEIRS, papers.winners_paper(MINE, THEIRS, [3, 1])), {}),
+    (lookers.look_winners, (MINE, THEIRS, ("winners", [3, 0], [0, 1, 2, 3])), {}),
+    (lookers.look_reserve, (MINE, THEIRS, papers.reserve_paper(MINE, THEIRS)), {}),
+    (lookers.look_telling, (MINE, THEIRS, papers.telling_paper(MINE, THEIRS, **TELLING)), TELLING),
+    (texts.format_deed, (("open", "a", "MT", [1, 2], [3, 4]),), {}),
+    (texts.parse_deed, ("open a MT 1 2 | 3 4",), {}),
+    (texts.parse_deed, ("open a - - | -",), {}),
 ]
 
 

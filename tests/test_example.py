@@ -4,16 +4,18 @@ import unittest
 
 import plain
 from climbrow.cards import deck, next_up
-from climbrow.errors import BadWord, Contradiction, Unreachable
+from climbrow.errors import BadText, BadWord, Contradiction, Unreachable
 from climbrow.kinds import count_orders, order_of
 from climbrow.levels import row_after, row_of, side_levels
 from climbrow.pairings import marks, result, rotation
+from climbrow.papers import span_paper
 from climbrow.picks import best_picks, picked_value
 from climbrow.reserves import reserve
 from climbrow.rings import arc, taken_out
 from climbrow.rows import all_values, blocks, struck, value
 from climbrow.seasons import season_run
 from climbrow.spans import Span, least, most, pairing_with
+from climbrow.texts import parse_deed
 from climbrow.told import results_told
 from climbrow.turns import can_force, exact_range
 from climbrow.walks import crossing, heights, peak, peak_places, valley
@@ -91,6 +93,13 @@ class ExampleTest(plain.Case, unittest.TestCase):
     def test_results_told(self):
         self.assertEqual(results_told(MINE, THEIRS, lost=[0]), (2, 2))
         self.raises(Contradiction, {}, results_told, MINE, THEIRS, lost=[2])
+
+    def test_span_paper(self):
+        self.assertEqual(span_paper(MINE, THEIRS), ("span", 2, 2, [2, 0, 1], 3, 0, [0, 1, 2]))
+
+    def test_parse_deed(self):
+        self.assertEqual(parse_deed("open a TM 3 1 | 2 2"), ("open", "a", "TM", [3, 1], [2, 2]))
+        self.raises(BadText, {"position": 2}, parse_deed, "lay a 07")
 
 
 if __name__ == "__main__":

@@ -10,6 +10,7 @@ PAIR = "(mine, theirs, m, t)"
 PAIRING = "(mine, theirs, pairing)"
 WORD = "(mine, theirs, word, *, many='mine')"
 LAID = "(mine, theirs, word, index, *, many='mine')"
+PAPER = "(mine, theirs, paper)"
 PICKED = "(rows, word, *, picker='layer', many='mine')"
 
 FUNCTIONS = {
@@ -140,6 +141,33 @@ FUNCTIONS = {
         "lifts_needed": "(mine, theirs, word, wanted)",
         "late_pair": "(mine, theirs, my_number, their_number)",
     },
+    "climbrow.league": {
+        "least_table": "(hands)",
+        "loss_table": "(hands)",
+        "beats_all": "(hands)",
+        "joined_pairing": "(first, second)",
+        "commonest": "(hand)",
+    },
+    "climbrow.papers": {
+        "span_paper": HANDS,
+        "row_paper": HANDS,
+        "reserve_paper": HANDS,
+        "value_paper": WORD,
+        "winners_paper": "(mine, theirs, cards)",
+        "telling_paper": "(mine, theirs, *, pairs=(), won=(), lost=())",
+    },
+    "climbrow.lookers": {
+        "look_span": PAPER,
+        "look_row": PAPER,
+        "look_value": PAPER,
+        "look_winners": PAPER,
+        "look_reserve": PAPER,
+        "look_telling": "(mine, theirs, paper, *, pairs=(), won=(), lost=())",
+    },
+    "climbrow.texts": {
+        "format_deed": "(deed)",
+        "parse_deed": "(text)",
+    },
 }
 
 CLASSES = {
@@ -244,6 +272,23 @@ CLASSES = {
             "answer": "(self, index)",
             "saw": "(self, m, t)",
             "promise": "(self, word)",
+        },
+    },
+    "climbrow.desk": {
+        "Desk": {
+            "__init__": "(self)",
+            "__iter__": "(self)",
+            "do": "(self, deed)",
+            "run": "(self, texts)",
+            "undo": "(self)",
+            "redo": "(self)",
+            "journal": "(self)",
+            "twin": "(self)",
+            "state": "(self, name)",
+            "span": "(self, name)",
+            "value": "(self, name, letters, *, many='mine')",
+            "advice": "(self, name, *, many='mine')",
+            "whole_span": "(self)",
         },
     },
 }
