@@ -189,3 +189,15 @@ def changed_twice(paper):
     """Papers in which two entries are other ones: some of them are right again."""
     first = changed(paper)
     return list(itertools.chain.from_iterable(changed(part) for part in first[::5]))
+
+
+def some_tellings(source, mine, theirs, count):
+    """Tellings, some with which no pairing agrees, in lists that are not always ascending."""
+    found, n = [((), (), ())], len(mine)
+    for _ in range(count):
+        cards, partners = source.sample(range(n), n), source.sample(range(n), n)
+        cuts = sorted(source.randint(0, n) for _ in range(3))
+        pairs = list(zip(cards[:cuts[0]], partners))
+        won, lost = cards[cuts[0]:cuts[1]], cards[cuts[1]:cuts[2]]
+        found.append((pairs, won, lost) if source.random() < 0.7 else (tuple(pairs), tuple(won), tuple(lost)))
+    return found

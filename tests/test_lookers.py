@@ -10,7 +10,6 @@ import plainpapers
 from climbrow.errors import BadCard, BadHands
 from climbrow.lookers import look_reserve, look_row, look_span, look_telling, look_value, look_winners
 from climbrow.papers import reserve_paper, row_paper, span_paper, telling_paper, value_paper, winners_paper
-from test_papers import some_tellings
 
 SIDES = ("mine", "theirs")
 HANDS = ([([], []), ([5], [5]), ([4], [5]), ([1, 1, 2], [1, 1, 2])] + plain.small_hands(2, 2)[::3] + plain.all_orders(3)[::4]
@@ -79,7 +78,7 @@ class ChangedPapersTest(Looking, unittest.TestCase):
     def test_papers_of_tellings(self):
         source = random.Random(171)
         for mine, theirs in HANDS:
-            for told in some_tellings(source, mine, theirs, 5):
+            for told in plainpapers.some_tellings(source, mine, theirs, 5):
                 given = dict(zip(("pairs", "won", "lost"), told))
                 self.check(look_telling, plainpapers.telling_is_shown, (mine, theirs),
                            telling_paper(mine, theirs, **given), given)
@@ -172,7 +171,7 @@ class OtherPapersTest(Looking, unittest.TestCase):
         source, accepted = random.Random(175), {"agrees": 0, "contradiction": 0}
         for mine, theirs in HANDS + plain.all_orders(3):
             n = len(mine)
-            for told in some_tellings(source, mine, theirs, 6):
+            for told in plainpapers.some_tellings(source, mine, theirs, 6):
                 given = dict(zip(("pairs", "won", "lost"), told))
                 pairings = [pairing for pairing in plain.all_pairings(n) if plainpapers.agrees(mine, theirs, pairing, *told)]
                 results = [plain.count_won(mine, theirs, pairing) for pairing in pairings]

@@ -31,18 +31,6 @@ def subsets(n):
     return [list(cards) for k in range(n + 1) for cards in itertools.combinations(range(n), k)]
 
 
-def some_tellings(source, mine, theirs, count):
-    """Tellings, some with which no pairing agrees, in lists that are not always ascending."""
-    found, n = [((), (), ())], len(mine)
-    for _ in range(count):
-        cards, partners = source.sample(range(n), n), source.sample(range(n), n)
-        cuts = sorted(source.randint(0, n) for _ in range(3))
-        pairs = list(zip(cards[:cuts[0]], partners))
-        won, lost = cards[cuts[0]:cuts[1]], cards[cuts[1]:cuts[2]]
-        found.append((pairs, won, lost) if source.random() < 0.7 else (tuple(pairs), tuple(won), tuple(lost)))
-    return found
-
-
 class SpanTest(plain.Case, unittest.TestCase):
 
     def test_rotations_and_lowest_places(self):
@@ -174,7 +162,7 @@ class TellingTest(plain.Case, unittest.TestCase):
     def test_tellings_of_small_hands(self):
         source, heads = random.Random(163), set()
         for mine, theirs in SMALL:
-            for told in some_tellings(source, mine, theirs, 12):
+            for told in plainpapers.some_tellings(source, mine, theirs, 12):
                 heads.add(self.check(mine, theirs, told))
         self.assertEqual(heads, {("agrees", True), ("agrees", False),
                                  ("contradiction", "winners"), ("contradiction", "height")})
@@ -182,13 +170,13 @@ class TellingTest(plain.Case, unittest.TestCase):
     def test_longer_hands(self):
         source = random.Random(164)
         for mine, theirs in plain.some_hands(165, 12, 40, 0, 30) + [([7] * 40, [7] * 40)]:
-            for told in some_tellings(source, mine, theirs, 4):
+            for told in plainpapers.some_tellings(source, mine, theirs, 4):
                 self.check(mine, theirs, told)
 
     def test_the_results_are_those_of_all_pairings(self):
         source = random.Random(166)
         for mine, theirs in SMALL:
-            for told in some_tellings(source, mine, theirs, 5):
+            for told in plainpapers.some_tellings(source, mine, theirs, 5):
                 found = telling_paper(mine, theirs, **dict(zip(("pairs", "won", "lost"), told)))
                 results = [plain.count_won(mine, theirs, pairing) for pairing in plain.all_pairings(len(mine))
                            if plainpapers.agrees(mine, theirs, pairing, *told)]
